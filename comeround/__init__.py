@@ -1,0 +1,1 @@
+"""Points that come round: maps drawn by straight lines between dots."""
