@@ -4,9 +4,8 @@ BEGIN = 0
 MAP = 1
 GO = 2
 RUN = 3
-ROUND = 4
 
-# How many whole numbers stand behind a call's number, by that number.
+# How many whole numbers stand behind a call's number, by that number: begin, map, go, run, round.
 WHOLE_NUMBERS = (0, 1, 2, 3, 2)
 
 DONE = 0
@@ -73,6 +72,7 @@ def answer_about_fraction(heights, call):
         return [moved(heights, p, q)]
     if call[0] == RUN:
         return [moved_often(heights, p, q, call[3])]
+    # Only round is left.
     return [DONE] + coming_round(heights, p, q)
 
 
