@@ -3,9 +3,25 @@
 import unittest
 
 from comeround.maps import answers
-from tests.helper import BEGIN, DONE, NO_MAP, REFUSED, come_round, go, map_of, map_without_heights, run
+from tests.helper import (
+    BEGIN,
+    DONE,
+    NO,
+    NO_MAP,
+    REFUSED,
+    YES,
+    come_round,
+    covers,
+    go,
+    has,
+    loops,
+    map_of,
+    map_without_heights,
+    run,
+    walks,
+)
 
-NEEDING_A_MAP = (go(0, 1), run(0, 1, 0), come_round(0, 1))
+NEEDING_A_MAP = (go(0, 1), run(0, 1, 0), come_round(0, 1), covers(0, 0), walks(0), loops(0), has(1))
 REFUSED_N = (0, 1, 9, 10, 255, 2147483647, 2147483648, 2147483650, 4294967295)
 
 
@@ -82,10 +98,14 @@ class Map(unittest.TestCase):
             with self.subTest(refused=refused):
                 told = answers(map_of([1, 2, 0]) + refused + go(1, 2) + run(2, 1, 2) + come_round(0, 1))
                 self.assertEqual(told, DONE + REFUSED + [1, 3] + [1, 1] + [3, 0, 0, 3])
+                told = answers(map_of([1, 2, 0]) + refused + covers(1, 1) + walks(2) + loops(2) + has(3))
+                self.assertEqual(told, DONE + REFUSED + YES + [2, 0, 5] + [2, 0, 3] + YES)
 
     def test_takes_the_place_of_the_one_before(self):
         told = answers(map_of([1, 2, 0]) + map_of([1, 0]) + go(0, 1) + go(1, 1) + go(2, 1))
         self.assertEqual(told, DONE + DONE + [1, 1] + [1, 0] + REFUSED)
+        told = answers(map_of([1, 2, 0]) + map_of([1, 0]) + covers(1, 1) + walks(2) + loops(2) + has(3))
+        self.assertEqual(told, DONE + DONE + REFUSED + [2, 0, 1] + [2, 0, 1] + NO)
 
 
 if __name__ == "__main__":
